@@ -1,19 +1,16 @@
 """The interface: a line of calls on one pool, answered call by call."""
 
 from mirrorpool.blocks import is_block, whole_block
-from mirrorpool.layout import BEGIN, FLUSH, PLACES, PUT_SLOT, READ, SLOTS_CALL, WRITE, Reader
+from mirrorpool.layout import ASKS, BEGIN, FILL, FLUSH, GOOD_CALL, OUT_CALL, PEEK, PLACES
+from mirrorpool.layout import PUT_SLOT, READ, SLOTS_CALL, STATE, SUM_OF, WRITE, Reader
 from mirrorpool.line import Line, PowerGone
-from mirrorpool.pool import Pool, can_be_pool
+from mirrorpool.pool import BEING_FILLED, GOOD, OUT, Pool, can_be_pool
 from mirrorpool.sums import Sums
 
 DONE = 0
 WRONG = -2
 NO_POOL = -9
 POWER_WENT = -100
-
-
-class UnknownCall(ValueError):
-    pass
 
 
 def read_answer(pool, place, wanted):
@@ -40,6 +37,24 @@ def put_slot_answer(pool, k, told):
     return [pool.put_slot(k, whole_block(told))]
 
 
+def state_answer(pool, d):
+    if not pool.has_device(d):
+        return [WRONG]
+    return [pool.state_of(d)]
+
+
+def state_given(code):
+    states = {OUT_CALL: OUT, FILL: BEING_FILLED, GOOD_CALL: GOOD}
+    return states[code]
+
+
+def give_state_answer(pool, d, state):
+    if not pool.has_device(d):
+        return [WRONG]
+    pool.give_state(d, state)
+    return [DONE]
+
+
 def pool_answer(pool, call):
     if call.code == PLACES:
         return [pool.places()]
@@ -51,7 +66,11 @@ def pool_answer(pool, call):
         return [pool.flush()]
     if call.code == SLOTS_CALL:
         return slots_answer(pool, call.numbers[0])
-    return put_slot_answer(pool, call.numbers[0], call.lists[0])
+    if call.code == PUT_SLOT:
+        return put_slot_answer(pool, call.numbers[0], call.lists[0])
+    if call.code == STATE:
+        return state_answer(pool, call.numbers[0])
+    return give_state_answer(pool, call.numbers[0], state_given(call.code))
 
 
 class Session:
@@ -66,11 +85,12 @@ class Session:
         self.pool = Pool(self.line, self.sums, n, mirrors)
         return [DONE]
 
-    def answer(self, call):
-        if call.code == BEGIN:
-            return self.begin(call.numbers[0], call.lists)
-        if call.code not in (PLACES, READ, WRITE, FLUSH, SLOTS_CALL, PUT_SLOT):
-            raise UnknownCall()
+    def sum_of(self, place, told):
+        if not is_block(told):
+            return [WRONG]
+        return [self.sums.of_block(place, whole_block(told))]
+
+    def answer_by_pool(self, call):
         if self.pool is None:
             return [NO_POOL]
         try:
@@ -78,6 +98,17 @@ class Session:
         except PowerGone:
             self.pool = None
             return [POWER_WENT]
+
+    def answer(self, call):
+        if call.code == BEGIN:
+            return self.begin(call.numbers[0], call.lists)
+        if call.code == SUM_OF:
+            return self.sum_of(call.numbers[0], call.lists[0])
+        if call.code == PEEK:
+            return self.line.peek(call.numbers[0], call.numbers[1])
+        if call.code == ASKS:
+            return [self.line.ask_count]
+        return self.answer_by_pool(call)
 
 
 def answers(calls):

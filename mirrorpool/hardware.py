@@ -1,6 +1,6 @@
 """One device: what it remembers, and how it reads, writes and flushes."""
 
-from mirrorpool.blocks import BLOCK_BYTES, whole_block
+from mirrorpool.blocks import BLOCK_BYTES, told_bytes, whole_block
 
 
 # A block that is kept is never changed in place, only replaced by another:
@@ -49,6 +49,13 @@ class Device:
         for sent in self.coming:
             self.sure[sent[0]] = sent[1]
         self.coming = []
+
+    # This asks nothing of the device: what's sick or gone is told all the same.
+    def peek(self, k):
+        memory = [1 if self.gone else 0, 1 if k in self.sick else 0, len(self.coming)]
+        if not self.has_block(k):
+            return memory
+        return memory + told_bytes(self.block_now(k))
 
     def leave(self):
         self.gone = True

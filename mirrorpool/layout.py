@@ -7,6 +7,13 @@ WRITE = 3
 FLUSH = 4
 SLOTS_CALL = 5
 PUT_SLOT = 6
+OUT_CALL = 7
+FILL = 8
+GOOD_CALL = 9
+STATE = 10
+SUM_OF = 11
+PEEK = 12
+ASKS = 13
 
 
 class Call:

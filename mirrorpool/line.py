@@ -58,6 +58,11 @@ class Line:
         for device in self.devices:
             device.lose_power(mask, length)
 
+    def peek(self, d, k):
+        if not self.there(d):
+            return [0, 0, 0]
+        return self.devices[d].peek(k)
+
     def alive(self, d):
         return self.there(d) and not self.devices[d].gone
 

@@ -8,6 +8,7 @@ FEWEST_BLOCKS = 16
 MOST_BLOCKS = 65536
 WIDEST_MIRROR = 3
 GOOD = 0
+BEING_FILLED = 1
 OUT = 2
 
 
@@ -46,6 +47,15 @@ class Pool:
     def has_slot(self, k):
         return k < SLOTS
 
+    def has_device(self, d):
+        return d in self.states
+
+    def state_of(self, d):
+        return self.states[d]
+
+    def give_state(self, d, state):
+        self.states[d] = state
+
     def mirror_at(self, place):
         return self.mirrors[place % len(self.mirrors)]
 
@@ -61,7 +71,7 @@ class Pool:
     def put(self, d, k, block):
         if self.line.write(d, k, block) or self.line.write(d, k, block):
             return True
-        self.states[d] = OUT
+        self.give_state(d, OUT)
         return False
 
     def put_all(self, row, k, block):
@@ -88,7 +98,7 @@ class Pool:
     def flush(self):
         for d in self.those_not_out(list(self.states)):
             if not self.line.flush(d) and not self.line.flush(d):
-                self.states[d] = OUT
+                self.give_state(d, OUT)
         for mirror in self.mirrors:
             if len(self.good_ones(mirror)) == 0:
                 return 0

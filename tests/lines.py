@@ -4,6 +4,7 @@ from mirrorpool.devices import answers
 
 MOST = 2**64 - 1
 FAIL, TAKEN, GOES, SICK, ROT, OFF = range(6)
+IS_GOOD, IS_FILLED, IS_OUT = [0], [1], [2]
 POWER_WENT = [-100]
 NO_POOL = [-9]
 WRONG = [-2]
@@ -57,7 +58,38 @@ def put_slot(k, block):
     return call(6, [k], [block])
 
 
+def out(d):
+    return call(7, [d], [])
+
+
+def fill(d):
+    return call(8, [d], [])
+
+
+def good(d):
+    return call(9, [d], [])
+
+
+def state(d):
+    return call(10, [d], [])
+
+
+def sum_of(place, block):
+    return call(11, [place], [block])
+
+
+def peek(d, k):
+    return call(12, [d, k], [])
+
+
+def asks():
+    return call(13, [], [])
+
+
 def taken_apart(given):
+    for n in given:
+        if isinstance(n, bool) or not isinstance(n, int):
+            raise AssertionError(f"not a whole number: {n!r}")
     found = []
     at = 0
     while at < len(given):
@@ -77,17 +109,8 @@ def run(sizes, script, *calls):
 
 
 def ask_count(sizes, script, *calls):
-    """How many asks the calls make, none of them of device 7.
-
-    A script that fails ask n alone shows in the probe behind the calls if n asks
-    have been ahead of it; from above, no such script touches the calls.
-    """
-    sizes = (sizes + [0] * 8)[:7] + [16]
-    probe = [begin(16, [7]), slots(0)]
-    for n in range(99, -1, -1):
-        if run(sizes, [*script, [n, FAIL]], *calls, *probe)[-1] == [0]:
-            return n
-    raise AssertionError("no ask failed")
+    """How many asks the calls make."""
+    return run(sizes, script, *calls, asks())[-1][0]
 
 
 def crc(row):

@@ -2,9 +2,8 @@
 
 import unittest
 
-from lines import FAIL, GOES, MOST, POWER_WENT, WRONG, TAKEN, SICK, OFF
-from lines import begin, devices, flush, put_slot, run, slots
-from mirrorpool.devices import answers
+from lines import FAIL, GOES, POWER_WENT, WRONG, TAKEN, SICK, OFF
+from lines import begin, flush, put_slot, run, slots
 
 
 class Blocks(unittest.TestCase):
@@ -89,55 +88,6 @@ class Missing(unittest.TestCase):
         mirrors = [[d] for d in range(8)]
         self.assertEqual(run(sizes, [], begin(16, *mirrors), slots(3)),
                          [[0], [4, 0, 0, 5, 0, 6, 0, 7, 0]])
-
-
-class HandedIn(unittest.TestCase):
-    def line(self):
-        script = [[2, SICK, 0], [3, 4, 0, 1, MOST], [6, OFF, MOST, 2], [6, FAIL]]
-        calls = [begin(16, [0, 1]), put_slot(0, [1, 2, 3]), slots(0), slots(0), put_slot(0, [4] * 1025),
-                 put_slot(0, [9, 9, 9]), flush(), begin(16, [1], [0]), slots(0)]
-        return sum(calls, devices([16, 16], script))
-
-    def test_it_is_left_as_it_was(self):
-        laid = self.line()
-        answers(laid)
-        self.assertEqual(laid, self.line())
-
-    def test_a_second_time_is_answered_as_the_first(self):
-        laid = self.line()
-        first = answers(laid)
-        kept = list(first)
-        first.append(1)
-        self.assertEqual(answers(laid), kept)
-
-    def test_another_line_between_changes_nothing(self):
-        first = answers(self.line())
-        run([16, 16], [[0, GOES]], begin(16, [0, 1]), put_slot(0, [8]), flush())
-        self.assertEqual(answers(self.line()), first)
-
-
-class Layout(unittest.TestCase):
-    def test_devices_alone_is_answered_by_no_numbers(self):
-        self.assertEqual(answers([14, 0, 1, 0]), [0])
-
-    def test_numbers_and_counts_as_they_stand(self):
-        row = [14, 0, 2, 1, 16, 2, 0, 0, 0, 1, 16, 1, 1, 0, 6, 1, 3, 1, 2, 8, 9, 5, 1, 3, 0, 1, 0, 0]
-        self.assertEqual(answers(row), [0, 1, 0, 1, 1, 5, 1, 0, 2, 8, 9, 1, 8])
-
-    def test_a_refusal_is_one_number(self):
-        self.assertEqual(answers([14, 0, 1, 0, 1, 0, 0, 0, 1, 1, 0]), [0, 1, -9, 1, -2])
-
-    def test_whole_numbers_alone(self):
-        row = sum([begin(16, [0]), put_slot(0, [1]), flush(), slots(0)], devices([16], [[MOST, GOES]]))
-        given = answers(row)
-        self.assertEqual([n for n in given if not isinstance(n, int) or isinstance(n, bool)], [])
-        self.assertIs(type(given), list)
-
-    def test_400_calls(self):
-        calls = [begin(16, [0])] + [put_slot(n % 8, [n % 256]) for n in range(398)] + [slots(5)]
-        found = run([16], [], *calls)
-        self.assertEqual(len(found), 400)
-        self.assertEqual(found[-1], [1, 0, 1, 397 % 256])
 
 
 if __name__ == "__main__":

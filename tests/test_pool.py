@@ -1,12 +1,10 @@
-"""Promises 1 to 7, each by what its calls answer and by which devices they ask."""
+"""Promises 1 to 7, each by what its calls answer and by which devices they ask, where none was put out by a call."""
 
 import unittest
 
 from lines import FAIL, GOES, MOST, NO_POOL, OFF, POWER_WENT, ROT, SICK, TAKEN, WRONG
-from lines import ask_count, begin, block_sum, crc, flush, places, put_slot, read, read_of, run, slots, write
-from mirrorpool.line import Line
-from mirrorpool.pool import Pool
-from mirrorpool.sums import Sums
+from lines import ask_count, asks, begin, block_sum, crc, fill, flush, good, out, peek, places, put_slot
+from lines import read, read_of, run, slots, state, sum_of, write
 
 A = [1, 2, 3]
 B = [9, 0, 8]
@@ -72,9 +70,11 @@ class Begin(unittest.TestCase):
 
 
 class BeforeBegin(unittest.TestCase):
-    calls = [places(), read(0, 0), write(0, A), flush(), slots(0), put_slot(0, A)]
+    calls = [places(), read(0, 0), write(0, A), flush(), slots(0), put_slot(0, A), out(0), fill(0), good(0), state(0)]
     wrong = [read(MOST, MOST), write(MOST, A), write(0, [1] * 2000), slots(8), put_slot(MOST, A),
-             put_slot(0, [1] * 1025)]
+             put_slot(0, [1] * 1025), out(1), fill(8), good(MOST), state(MOST)]
+    free = [sum_of(0, A), sum_of(0, [1] * 1025), peek(0, 0), peek(MOST, 0), asks()]
+    told = [[block_sum(0, A)], WRONG, [0, 0, 0], [0, 0, 0], [0]]
 
     def test_all_answer_that_there_is_no_pool(self):
         for each in self.calls + self.wrong:
@@ -83,6 +83,12 @@ class BeforeBegin(unittest.TestCase):
 
     def test_nobody_is_asked(self):
         self.assertEqual(ask_count([16], [], *self.calls, *self.wrong), 0)
+
+    def test_sum_peek_and_asks_need_no_pool(self):
+        self.assertEqual(run([16], [], *self.free), self.told)
+        self.assertEqual(run([16], [], begin(15, [0]), *self.free)[1:], self.told)
+        self.assertEqual(run([16], [[0, OFF, 0, 0]], begin(16, [0]), slots(0), *self.free)[2:],
+                         self.told[:-1] + [[1]])
 
     def test_behind_the_power_going_it_is_so_too_until_begin(self):
         for each in self.calls + self.wrong:
@@ -164,8 +170,8 @@ class Sum(unittest.TestCase):
         self.assertEqual(found[1:], [[1], [0]])
 
     def test_another_sum(self):
-        good = block_sum(0, A)
-        for wanted in (0, MOST, good ^ 1, good ^ 2**63):
+        its = block_sum(0, A)
+        for wanted in (0, MOST, its ^ 1, its ^ 2**63):
             self.assertEqual(run([16], [], begin(16, [0]), write(0, A), read(0, wanted))[2], [0])
 
 
@@ -398,50 +404,6 @@ class PutSlot(unittest.TestCase):
         wrong = [put_slot(8, A), put_slot(MOST, A), put_slot(0, [1] * 1025), put_slot(0, [0] * 2000)]
         self.assertEqual(run([16], [], begin(16, [0]), *wrong, slots(0))[1:], [WRONG] * 4 + [[1, 0, 0]])
         self.assertEqual(ask_count([16], [], begin(16, [0]), *wrong), 0)
-
-
-class BeingFilled(unittest.TestCase):
-    """A device that's neither good nor out: no call makes one so far, so the pool is told so itself."""
-
-    def pool(self, script, *mirrors):
-        pool = Pool(Line([16] * 3, script), Sums(), 16, list(mirrors))
-        pool.states[0] = 1
-        return pool
-
-    def block(self, told):
-        return told + [0] * (1024 - len(told))
-
-    def test_it_is_put_blocks_but_does_not_count_as_given(self):
-        pool = self.pool([], [0], [1])
-        self.assertEqual(pool.write(0, self.block(A)), 0)
-        self.assertEqual(pool.write(1, self.block(A)), 1)
-        self.assertEqual(pool.put_slot(0, self.block(B)), 1)
-        self.assertEqual(pool.line.read(0, 8), self.block(A))
-        self.assertEqual(pool.line.read(0, 0), self.block(B))
-        self.assertEqual(self.pool([], [0]).put_slot(0, self.block(B)), 0)
-
-    def test_one_that_is_good_and_fails_twice_was_not_given_it(self):
-        pool = self.pool([[1, FAIL], [2, FAIL]], [0, 1])
-        self.assertEqual(pool.write(0, self.block(A)), 0)
-        self.assertEqual(pool.states, {0: 1, 1: 2})
-
-    def test_it_is_not_read(self):
-        pool = self.pool([], [0, 1])
-        pool.write(0, self.block(A))
-        self.assertEqual(pool.read(0, block_sum(0, A)), [1] + A)
-        self.assertEqual(pool.slots(0), [1, 1, 0])
-        self.assertEqual(pool.line.ask_count, 2 + 1 + 1)
-
-    def test_it_is_flushed_but_a_mirror_needs_a_good_one(self):
-        pool = self.pool([], [0], [1])
-        self.assertEqual(pool.flush(), 0)
-        self.assertEqual(pool.line.ask_count, 2)
-        self.assertEqual(self.pool([], [0, 1]).flush(), 1)
-
-    def test_it_goes_out_where_it_fails_twice(self):
-        pool = self.pool([[0, FAIL], [1, FAIL]], [0, 1])
-        self.assertEqual(pool.flush(), 1)
-        self.assertEqual(pool.states, {0: 2, 1: 0})
 
 
 if __name__ == "__main__":
